@@ -203,8 +203,8 @@ func wantError(b []byte, quoted bool) api.Errno {
 	return api.OK
 }
 
-// TestP1BytesOfAnyKind spoils right packets at random: every answer, and every error's place in the row, is held against the promise.
-func TestP1BytesOfAnyKind(t *testing.T) {
+// TestP1P2BytesOfAnyKind spoils right packets at random: every answer, and every error's place in the row, is held against the promise.
+func TestP1P2BytesOfAnyKind(t *testing.T) {
 	var c chance
 	seen := map[api.Errno]int{}
 	for range 40000 {
