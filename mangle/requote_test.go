@@ -99,10 +99,11 @@ func TestP10_2Requote(t *testing.T) {
 }
 
 // wantQuote says over again what becomes of a quoted packet's bytes. They are right ones, of a protocol that has tuples.
+// Bytes behind the length that they tell are none of the packet's.
 func wantQuote(b []byte, to api.Tuple) []byte {
 	b = slices.Clone(b)
 	head := int(b[0]%16) * 4
-	rest := b[head:]
+	rest := b[head:min(int(word(b, 2)), len(b))]
 	srcUpper, srcLower := halves(to.Src)
 	dstUpper, dstLower := halves(to.Dst)
 	is := []uint16{srcUpper, srcLower, dstUpper, dstLower, to.SrcPort, to.DstPort}
@@ -252,6 +253,49 @@ func TestP10_2RequoteBytesBehind(t *testing.T) {
 	q, e := mangle.Requote(message(t, 3, 1, append(built(t, whole.packet()), rest...)), server, host, whole.to())
 	if want := slices.Concat(whole.is, rest); e != api.OK || !bytes.Equal(q.Data[8+24:], want) {
 		t.Errorf("a segment: % x, %d, not % x", q.Data, e, want)
+	}
+}
+
+// TestP10_2RequoteSumBehind: where the quoted packet's length ends ahead of the check sum of its segment, or between
+// both bytes of it, there is none, though the message has bytes at its place.
+func TestP10_2RequoteSumBehind(t *testing.T) {
+	head := []byte{3, 0, 0xfc, 0xff, 0, 0, 0, 0, 0x45, 0, 0, 28, 0, 0, 0, 0, 0, 6, 0xba, 0xda, 0, 0, 0, 1, 0, 0, 0, 2}
+	p := api.Packet{Ttl: 7, Proto: 1, Src: 9, Dst: 8, Data: append(head, make([]byte, 20)...)}
+	to := api.Tuple{Proto: 6, Src: 3, Dst: 4, SrcPort: 5, DstPort: 6}
+	named := []byte{3, 0, 0xfc, 0xf4, 0, 0, 0, 0, 0x45, 0, 0, 28, 0, 0, 0, 0, 0, 6, 0xba, 0xd6, 0, 0, 0, 3, 0, 0, 0, 4, 0, 5, 0, 6}
+	want := api.Packet{Ttl: 7, Proto: 1, Src: 1, Dst: 2, Data: append(named, make([]byte, 16)...)}
+	if got, e := mangle.Requote(p, 1, 2, to); e != api.OK || !ipv4.Same(got, want) {
+		t.Errorf("%+v, %d, not %+v", got, e, want)
+	}
+	s := samples()["a segment"]
+	for n := 8; n <= len(s.was); n++ {
+		short := s.packet()
+		short.Data = s.was[:n]
+		q, e := mangle.Requote(message(t, 3, 1, append(built(t, short), s.was[n:]...)), 1, 2, s.to())
+		want := slices.Concat(s.is[:4], s.was[4:])
+		if n >= 18 {
+			copy(want[16:18], s.is[16:18])
+		}
+		if e != api.OK || !bytes.Equal(q.Data[8+24:], want) {
+			t.Errorf("%d bytes: % x, %d, not % x", n, q.Data, e, want)
+		}
+	}
+}
+
+// TestP10_2RequoteAnyLength: a quoted header may tell of fewer bytes than are there, of as many, and of more.
+func TestP10_2RequoteAnyLength(t *testing.T) {
+	r := chance()
+	for range 300 {
+		p := somePacket(t, r, protocols()[r.IntN(4)])
+		for n := 8; n <= len(p.Data)+3; n++ {
+			told := p
+			told.Data = make([]byte, n)
+			head := built(t, told)[:20+len(p.Options)]
+			fault := message(t, 3, 1, slices.Concat(head, p.Data))
+			if e := check(t, fault, r.Uint32(), r.Uint32(), someTuple(r, p.Proto)); e != api.OK {
+				t.Fatalf("%d bytes of %+v: %d", n, p, e)
+			}
+		}
 	}
 }
 
